@@ -1,0 +1,1 @@
+"""Points whose pairs have kinds, with equal counts of thirds."""

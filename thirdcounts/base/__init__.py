@@ -1,0 +1,1 @@
+"""Exact numbers, tables of numbers, and polynomials."""
