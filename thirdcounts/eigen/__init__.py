@@ -1,0 +1,1 @@
+"""The eigenspaces of counts, and their Krein numbers."""

@@ -1,0 +1,1 @@
+"""Ladders of kinds and of eigenspaces."""

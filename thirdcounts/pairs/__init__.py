@@ -1,0 +1,1 @@
+"""Schemes of points, and the counts that they have."""

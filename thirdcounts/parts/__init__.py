@@ -1,0 +1,1 @@
+"""Closed sets of kinds."""

@@ -1,0 +1,1 @@
+"""Webs of two kinds."""
