@@ -1,8 +1,9 @@
-"""Points 0.1 to 0.7 for stages 4 to 11: wrong values at each place, their order, and that nothing is changed."""
+"""Points 0.1 to 0.7 for stages 4 to 19: wrong values at each place, their order, and that nothing is changed."""
 
 import unittest
 from collections import Counter
 
+from tests.more_places import MORE_CALLS, MORE_CLOSE, MORE_JUDGES
 from tests.places import BASE, CALLS, CLOSE, CORNERS, JUDGES, OBJECTS, Place, array, kinds_table, listed, some_counts
 from tests.samples import CUBE, FIVE_RING, PAIRS, PRISM
 from tests.support import error_of, wrongs
@@ -12,7 +13,12 @@ from thirdcounts.ladder.ladders import is_array
 from thirdcounts.pairs.counts import is_counts
 from thirdcounts.pairs.schemes import is_kinds_table, is_scheme_table
 
-ALL = CALLS + [(call, places + [Place(right[0] if right else (), None, [])]) for call, places, right in JUDGES]
+ALL = CALLS + MORE_CALLS
+ALL += [(call, places + [Place(right[0] if right else (), None, [])]) for call, places, right in JUDGES + MORE_JUDGES]
+MODULES = """
+pairs.schemes pairs.counts eigen.spaces eigen.krein ladder.ladders webs.walks twokinds.tuples parts.closed made.products
+made.fusions moving.groups lots.counting lots.bounds lots.meeting kin.families use.desk
+""".split()
 
 
 class Places(unittest.TestCase):
@@ -60,7 +66,7 @@ class Places(unittest.TestCase):
 
     def test_each_function_is_here(self):
         named = Counter([call.__name__ for call, _ in ALL])
-        for module in ["pairs.schemes", "pairs.counts", "eigen.spaces", "eigen.krein", "ladder.ladders", "webs.walks", "twokinds.tuples", "parts.closed"]:
+        for module in MODULES:
             loaded = __import__(f"thirdcounts.{module}", fromlist=["x"])
             for name, value in vars(loaded).items():
                 told = getattr(value, "__module__", "") == loaded.__name__ and name.islower() and not name.startswith("_")
@@ -69,19 +75,20 @@ class Places(unittest.TestCase):
 
 
 NO_INTERFACE = """
-is_sequence is_order is_ascending thirds_and_fault is_counts_table is_sum_of_kinds told_valencies whole_times least_wholes
-order_between rows_or_none told_multiplicities told_krein_table
+is_sequence is_order is_ascending is_parting_of thirds_and_fault is_counts_table is_sum_of_kinds told_valencies whole_times least_wholes
+order_between rows_or_none told_multiplicities told_krein_table is_lot outer_row told_inner_counts duals_of told_dual_counts
+told_degree keeps
 """.split()
 
 
 class Judging(unittest.TestCase):
 
     def test_each_value(self):
-        for call, places, right in JUDGES:
+        for call, places, right in JUDGES + MORE_JUDGES:
             arguments = [place.valid for place in places]
             for value in right:
                 self.assertIs(call(*arguments, value), True, (call, value))
-            for value in BASE + OBJECTS + CLOSE:
+            for value in BASE + OBJECTS + CLOSE + MORE_CLOSE:
                 told = call(*arguments, value)
                 self.assertIs(type(told), bool, (call, value))
                 if value in BASE and value != ((), ()):

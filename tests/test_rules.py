@@ -13,7 +13,7 @@ NODES = """
 Module Expr Constant ImportFrom alias FunctionDef ClassDef arguments arg Return Assign If While For Break Continue Pass
 Raise Name Load Store Attribute Subscript Slice Call keyword Starred Tuple List Dict ListComp DictComp comprehension
 BinOp Add Sub Mult FloorDiv Mod Pow LShift RShift BitAnd BitOr BitXor UnaryOp USub Not BoolOp And Or IfExp Compare
-Eq NotEq Lt LtE Gt GtE In NotIn Is IsNot JoinedStr FormattedValue SetComp
+Eq NotEq Lt LtE Gt GtE In NotIn Is IsNot JoinedStr FormattedValue SetComp With withitem Yield YieldFrom
 """.split()
 LIBRARY = {"math": ["gcd", "lcm", "isqrt", "comb"]}
 BUILTINS = """
@@ -21,13 +21,14 @@ len range enumerate zip min max sum abs sorted reversed int str bool list tuple 
 iter
 """.split()
 DECORATORS = "property classmethod".split()
-SPECIAL = "__init__ __eq__ __len__ __iter__ __contains__ __str__".split()
+SPECIAL = "__init__ __eq__ __len__ __iter__ __contains__ __str__ __enter__ __exit__".split()
+QUIET = "__eq__ __len__ __iter__ __contains__ __str__".split()
 ERROR_BASES = "ValueError KeyError IndexError RuntimeError OverflowError ArithmeticError".split()
 METHODS = """
 append count endswith extend find get index insert isalnum isalpha isascii isdigit islower items join keys lower partition
-pop remove removeprefix removesuffix replace reverse rfind split startswith strip update upper values bit_length
+pop remove removeprefix removesuffix replace reverse rfind setdefault split startswith strip update upper values bit_length
 """.split()
-CHANGING = "append clear extend insert pop remove reverse update".split()
+CHANGING = "append clear extend insert pop remove reverse setdefault update".split()
 BARRED_NAMES = "register mro elements open input law version_info with_traceback add_note".split()
 BARRED_WORDS = """
 type typing enum Enum IntEnum Flag IntFlag Generic Protocol ABC ABCMeta namedtuple NamedTuple TypedDict abstractmethod
@@ -79,6 +80,31 @@ is_switching signs_table
     "parts/closed": """
 is_closed closed_sets closed_by classes_of piece piece_counts bundles quotient quotient_counts spaces_above is_primitive
 """,
+    "made/products": """
+beside inside power beside_counts inside_counts power_counts power_types beside_table inside_table power_table
+""",
+    "made/fusions": """
+is_parting is_fusion fusion_fault is_fusion_fault fused_counts fused spaces_parting all_partings all_fusions common_parting
+met_parting fused_twice
+""",
+    "moving/groups": """
+is_makers scheme_of_moves is_kept kept_move moves_paper is_moves_paper group_elements group_sum lot_sum group_scheme
+dual_parting group_rows
+""",
+    "lots/counting": """
+inner_counts dual_counts outer_counts dual_row inner_row degree dual_degree rest_of strength size_bounds farthest
+least_distance is_perfect lot_scheme
+""",
+    "lots/bounds": """
+bound partner loose_bound bound_row is_bound_row is_passing bound_paper is_bound_paper paper_worth partner_row
+is_partner_row row_of_paper paper_of_row lots_bound
+""",
+    "lots/meeting": """
+pair_sum are_across common_number does_keep greatest_size greatest_lot is_greatest_lot each_greatest tight_lots
+is_tight_lots is_points_parting is_equal_parting parting_numbers means_table rings_of is_even_lot
+""",
+    "kin/families": "Family ball_poly",
+    "use/desk": "is_pledge Desk",
 }
 CONSTANTS = {
     "base/numbers": "MAX_NAME MAX_RAISED MAX_CHOSEN MAX_TEXT",
@@ -91,6 +117,12 @@ CONSTANTS = {
     "ladder/ladders": "MOST_ENTRY MOST_COUNT",
     "webs/walks": "MAX_POINTS MOST_STEPS MOST_DISTANCE",
     "twokinds/tuples": "MOST_TUPLE MOST_LISTED",
+    "made/products": "MOST_POINTS MOST_KINDS MOST_COUNT",
+    "made/fusions": "MAX_FUSED",
+    "moving/groups": "MAX_MAKERS MAX_SEARCHED",
+    "lots/meeting": "MOST_GREATEST",
+    "kin/families": "MOST_THINGS MOST_PLACES MOST_SIZE MOST_TABLED LETTERS",
+    "use/desk": "MAX_LOTS MAX_PLEDGES",
 }
 CLASSES = {
     "pairs/schemes": """
@@ -98,6 +130,14 @@ by_sharing by_places by_ring lone table size most valencies kind_of around numbe
 __str__
 """,
     "webs/walks": "size ties valencies is_regular is_joined distance walks __eq__ __str__",
+    "kin/families": """
+words subsets subspaces forms most points valencies multiplicities eigenvalue first_rows number counts ball ball_zeros
+perfect_fault __eq__ __str__
+""",
+    "use/desk": """
+put unite toggle drop rename fuse shuffle demand waive undo redo trial during twin lot_named scheme names lines pledges changes
+__contains__ __len__ __iter__ __eq__ __str__
+""",
 }
 BARRED_STARTS = ("_wall", "_pe_", "_dcw_", "_enum_", "_cm_", "_twin_re_", "_lay_", "_law_", "_stub_", "_sre", "_WallAttr")
 
@@ -162,9 +202,10 @@ class Rules(unittest.TestCase):
             self.assertEqual([word for word in told.split() if word not in named], [], name)
         for name, told in CLASSES.items():
             classes = [node for node in tree_of(PACKAGE / f"{name}.py").body if isinstance(node, ast.ClassDef)]
+            classes = [node for node in classes if node.name in INTERFACE[name].split()]
             methods = [node.name for node in classes[0].body if isinstance(node, ast.FunctionDef)]
             self.assertEqual([word for word in told.split() if word not in methods], [], name)
-            self.assertEqual(len(methods), len(set(methods)))
+            self.assertEqual((len(classes), len(methods)), (1, len(set(methods))))
 
     def test_statements(self):
         for place, node in self.each(ast.AST):
@@ -188,15 +229,19 @@ class Rules(unittest.TestCase):
                 self.assertLessEqual(len(method.decorator_list), 1, place)
                 first = method.args.args[0].arg
                 self.assertEqual(first, "cls" if [mark.id for mark in method.decorator_list] == ["classmethod"] else "self", place)
-                if method.decorator_list and first == "self" or method.name in SPECIAL and method.name != "__init__":
+                if method.decorator_list and first == "self" or method.name in QUIET:
                     # What a property or a special method runs is one row alone, which changes nothing.
                     rows = [row for row in method.body if not isinstance(row, ast.Expr)]
                     self.assertTrue(len(rows) == 1 and isinstance(rows[0], ast.Return), (place, method.name))
-                if method.name == "__init__":
+                if method.name == "__exit__":
+                    # An attribute is kept by one name, and then only attributes are assigned to attributes.
+                    rows = [(row.targets[0].__class__, row.value.__class__) for row in method.body]
+                    self.assertEqual(rows, [(ast.Name, ast.Attribute)] + [(ast.Attribute, ast.Attribute)] * (len(rows) - 1), place)
+                if method.name in ("__init__", "__exit__"):
                     self.assertFalse(any(isinstance(inner, ast.Return) for inner in ast.walk(method)), place)
         for place, node in self.each(ast.Assign):
             for target in [target for target in node.targets if isinstance(target, ast.Attribute)]:
-                self.assertTrue(isinstance(target.value, ast.Name) and target.value.id == "self", place)
+                self.assertIsInstance(target.value, ast.Name, place)
         known = [name for path in FILES for name in bound_names(tree_of(path))] + METHODS
         known += [node.attr for _, node in self.each(ast.Attribute) if isinstance(node.ctx, ast.Store)]
         for place, node in self.each(ast.Attribute):

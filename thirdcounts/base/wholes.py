@@ -26,6 +26,12 @@ def fractions_of(wholes, bottom):
     return tuple([fraction(whole, bottom) for whole in wholes])
 
 
+def row_sum(row):
+    """The sum of a row of numbers, a fraction."""
+    wholes, common = whole_row(row)
+    return fraction(sum(wholes), common)
+
+
 def divisor_of(wholes):
     """The greatest common divisor of the integers, 0 if all are 0."""
     divisor = 0
@@ -49,7 +55,7 @@ def _with_row_at(rows, place, found):
     return exchanged
 
 
-def _with_cleared(rows, place, column, divisor):
+def with_cleared(rows, place, column, divisor):
     """The rows with 0 in the column, but for the row at `place`.
 
     Each entry stays a determinant of entries of the first rows, so the division leaves no rest,
@@ -83,7 +89,7 @@ def eliminated(rows):
         if found:
             if found[0] != place:
                 sign = -sign
-            left = _with_cleared(_with_row_at(left, place, found[0]), place, column, lead)
+            left = with_cleared(_with_row_at(left, place, found[0]), place, column, lead)
             lead = left[place][column]
             columns.append(column)
     return left[:len(columns)], columns, lead, sign

@@ -33,6 +33,15 @@ def is_ascending(value, low, high):
     return all([one < other for one, other in zip(value, value[1:])])
 
 
+def is_parting_of(value, low, high):
+    """Whether the value is a tuple of lots that have the integers from `low` to `high`, each once, by their firsts."""
+    if not isinstance(value, tuple) or not all([is_ascending(lot, low, high) and len(lot) > 0 for lot in value]):
+        return False
+    firsts = [lot[0] for lot in value]
+    parted = tuple([entry - low for lot in value for entry in lot])
+    return firsts == sorted(firsts) and is_sequence(parted, high - low + 1)
+
+
 def need_kinds_set(value, most):
     """Raise `InvalidKinds` unless the value is an ascending tuple of kinds from 1 to `most`."""
     if not is_ascending(value, 1, most):

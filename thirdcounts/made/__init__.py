@@ -1,0 +1,1 @@
+"""Schemes made of schemes."""

@@ -1,0 +1,1 @@
+"""Moves of points, and groups."""

@@ -1,0 +1,1 @@
+"""A desk for schemes and lots."""
