@@ -215,7 +215,7 @@ MORE_CLOSE = [
     (EVEN, (1, 2, 4)), (EVEN, (1, 2, 4, 7), ()), (EVEN, [1, 2, 4, 7]), ((1, 2, 4, 7), EVEN), ("keeps", "a", (0,)), ("keeps", "a", (11,)), ("keeps", "a", (2, 1)), ("keeps", "a"),
     ("keeps", "A", (2,)), ("keeps", "", ()), ("keeps", "abcdefghi", ()), ("keeps", 1, ()), ("keeps", "a", [2]), ("keeps", "a", (True,)), ("degree", "a", True), ("degree", "a", -1),
     ("degree", "a", (1, 1)), ("degree", "a", 1, 1), ("degree", "a", LONG), ("meets", "a", "b", True), ("meets", "a", "b"), ("meets", "a", 1, 1), ("pairs", "a", True, 1),
-    ("pairs", "a", 11, 1), ("pairs", "a", -1, 1), ("pairs", "a", 1, True), ("pairs", "a", 1, (2, 4)), ("pairs", "a", 1, LONG), ("pairs", "a", 1), ("other", "a", 1), ["degree", "a", 1],
+    ("pairs", "a", 11, 1), ("pairs", "a", -1, 1), ("pairs", "a", 1, True), ("pairs", "a", 1, (2, 4)), ("pairs", "a", 1, LONG), ("pairs", "a", 1), ("other", "a", 1), ("other", "a", (2,)), ["degree", "a", 1],
     (("degree",), "a", 1), ("degree", ("a",), 1), ("keeps", "a", (2,), ()), ("keeps", None, (2,)), (None, "a", 1), PAIRS, SQUARE, TEN,
 ]
 MORE_CLOSE += [value for value in NO_FRACTIONS]

@@ -222,6 +222,12 @@ class Judges(unittest.TestCase):
         ]:
             self.assertIs(is_passing(FEW, (1,), value), passing)
             self.assertIs(is_bound_row(FEW, (1,), value), best)
+        for kinds in [(), (1,), (2,), (1, 2)]:
+            for a in [(0, 1), (1, 9), (1, 1), (-1, 9)]:
+                for b in [(0, 1), (1, 9), (1, 1), (-1, 9)]:
+                    values = [1, as_python(a), as_python(b)]
+                    right = all(entry >= 0 for entry in values) and all(values[kind] == 0 or kind in kinds for kind in (1, 2))
+                    self.assertIs(is_passing(FEW, kinds, (one, a, b)), right and all(entry >= 0 for entry in duals(FEW, values)))
         # Several rows have the greatest sum here, and all are right.
         square = counts_of(Scheme.by_ring(4))
         for a in [Fraction(0), Fraction(1), Fraction(1, 3), Fraction(2)]:
@@ -324,6 +330,7 @@ class Simplex(unittest.TestCase):
         self.assertEqual(greatest([[1]], [1]), ([(1, 1)], [(1, 1)]))
         self.assertEqual(greatest([[2, 0], [0, 3]], [1, 1]), ([(1, 2), (1, 3)], [(1, 2), (1, 3)]))
         self.assertEqual(greatest([[1]], []), ([], [(0, 1)]))
+        self.assertEqual(greatest([], []), ([], []))
         self.assertEqual(greatest([[1, -1], [-1, 2]], [0, 0])[0], [(0, 1), (0, 1)])
 
     def test_drawn_ones(self):

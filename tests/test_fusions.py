@@ -151,6 +151,16 @@ class Fusions(unittest.TestCase):
                     wanted = right and sum_at(counts, lots, one, other, first) != sum_at(counts, lots, one, other, second)
                     self.assertIs(is_fusion_fault(counts, parting, (one, other, first, second)), wanted)
 
+    def test_true_is_not_1(self):
+        counts, parting = counts_of(Scheme.by_ring(9)), ((1, 2), (3, 4))
+        faults = [
+            fault for fault in product(range(3), range(3), range(5), range(5)) if is_fusion_fault(counts, parting, fault) and 1 in fault
+        ]
+        self.assertTrue(faults)
+        for fault in faults:
+            for at in [at for at in range(4) if fault[at] == 1]:
+                self.assertIs(is_fusion_fault(counts, parting, fault[:at] + (True,) + fault[at + 1:]), False)
+
     def test_all_fusions(self):
         for counts in plain_counts():
             if len(counts) <= 8:

@@ -208,7 +208,11 @@ class Moves(unittest.TestCase):
             found[paper[0]] += 1
             self.assertIs(is_moves_paper(scheme, paper), True)
             if paper[0] == "moves":
-                self.assertTrue(is_makers(paper[1]) and all(is_kept(scheme, move) for move in paper[1]))
+                makers = paper[1]
+                self.assertTrue(is_makers(makers) and all(is_kept(scheme, move) for move in makers))
+                # Each of them is needed, so that there are never more than the document allows.
+                for move in makers if len(makers) > 1 else ():
+                    self.assertIs(is_moves_paper(scheme, ("moves", tuple([other for other in makers if other != move]))), False)
                 again = scheme_of_moves(paper[1])
                 names = [scheme.table[0][again.table[0].index(kind)] for kind in range(again.most + 1)]
                 self.assertEqual(again.renumbered(tuple(names)), scheme)
@@ -230,6 +234,9 @@ class Moves(unittest.TestCase):
         for other in pairs:
             self.assertIs(is_moves_paper(TWISTED, ("pairs", 0, 2) + other), other in against)
             self.assertIs(is_moves_paper(TWISTED, ("pairs",) + other + (0, 2)), other in against)
+            self.assertIs(is_moves_paper(TWISTED, ("moves", 0, 2) + other), False)
+        for wrong in [("pairs", 0, 2, 0, 16), ("pairs", 0, 16, 0, 2), ("pairs", 0, 2, 0, True), ("pairs", -1, 2, 0, 6), ("pairs", 0, 2, 0, -1), (("pairs",), 0, 2, 0, 6)]:
+            self.assertIs(is_moves_paper(TWISTED, wrong), False)
         makers = tuple([tuple([group_sum((4, 4), point, step) for point in range(16)]) for step in (1, 4)])
         self.assertTrue(all(is_kept(TWISTED, move) for move in makers))
         self.assertIs(is_moves_paper(TWISTED, ("moves", makers)), False)
@@ -237,6 +244,8 @@ class Moves(unittest.TestCase):
     def test_is_moves_paper(self):
         turn, flip = (1, 2, 3, 4, 0), (0, 4, 3, 2, 1)
         ring = Scheme.by_ring(5)
+        for move in [(1, 0, 2), (0,), (1, 0, 3, 2)]:
+            self.assertIs(is_moves_paper(Scheme.lone(2), ("moves", (move,))), False)
         for makers, wanted in [
             ((turn, flip), True), ((turn,), False), ((flip,), False), ((flip, turn, turn), True), ((turn, flip) * 10, True), ((turn, flip) * 11, False),
             ((turn, flip, (1, 0, 2, 3, 4)), False), ((turn, flip, (0, 1, 2, 3)), False), ((turn, flip, (0, 1, 2, 3, 4)), True), ((), False),

@@ -256,7 +256,8 @@ class Greatest(unittest.TestCase):
         for value, wanted in [
             ((EVEN, (0, 1)), True), ((ODD, (0, 1)), True), ((EVEN, (0, 7)), True), ((EVEN, (0, 3)), False), (((0, 1), EVEN), False), ((EVEN, (0,)), False),
             ((EVEN[:2], (0, 1, 3, 2)), False), ((EVEN,), False), ([EVEN, (0, 1)], False), ((list(EVEN), (0, 1)), False), ((EVEN, (0, True)), False), ((), False), (None, False),
-            ((EVEN, (0, 1), ()), False), ((EVEN, (1, 0)), False), ((EVEN, (0, 8)), False), ((EVEN, ()), False), (((), EVEN), False), ((EVEN, (0, 1, 2)), False),
+            ((EVEN, (0, 1), ()), False), ((EVEN, (1, 0)), False), ((EVEN, (0, 8)), False), ((EVEN, ()), False), (((), EVEN), False), ((EVEN, (0, 1, 2)), False), (((0, 1, 2, 3), (0, 1)), False),
+            (((0, 7), (0, 1, 2, 4)), False),
         ]:
             self.assertIs(is_tight_lots(CUBE, (2,), value), wanted)
         self.assertIs(is_tight_lots(CUBE, (), ((0,), tuple(range(8)))), True)

@@ -73,14 +73,6 @@ def _forms_value(rows, columns, letters, space, kind):
     return total
 
 
-def _forms_of_rank(rows, columns, letters, rank):
-    """How many tables have a rank."""
-    many = _spaces(letters, rows, rank)
-    for low in range(rank):
-        many = many * (raised(letters, columns) - raised(letters, low))
-    return many
-
-
 def _need_words(places, letters):
     if not is_between(places, 1, MOST_PLACES):
         raise InvalidNumber(places)
@@ -89,7 +81,7 @@ def _need_words(places, letters):
 
 
 def _need_field(letters):
-    if not is_between(letters, 2, _MOST_LETTERS) or letters not in LETTERS:
+    if letters not in LETTERS:
         raise InvalidNumber(letters)
 
 
@@ -210,8 +202,8 @@ class Family:
         return sum(self._rows[0][:radius + 1])
 
     def _zeros(self, radius):
-        sums = [sum(row[:radius + 1]) for row in self._rows]
-        return tuple([space for space, total in enumerate(sums) if space > 0 and total == 0])
+        # At the eigenspace 0 the sum is the size of the ball.
+        return tuple([space for space, row in enumerate(self._rows) if sum(row[:radius + 1]) == 0])
 
     def ball_zeros(self, radius):
         """The eigenspaces from 1 on at which the sum of the first entries is 0."""

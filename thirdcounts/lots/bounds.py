@@ -29,8 +29,6 @@ def _best(rows, kinds):
     With a(i) = v(i) x(i) the dual count at r, divided by m(r), is 1 and the sum of all P(r, i) x(i).
     """
     valencies = rows[0]
-    if len(rows) == 1:
-        return ((1, 1),), ((1, 1),)
     bounds = [[-row[kind] for kind in kinds] for row in rows[1:]]
     entries, weights = greatest(bounds, [valencies[kind] for kind in kinds])
     paper = [(1, 1)]
@@ -95,8 +93,6 @@ def loose_bound(counts, kinds):
     """The greatest sum of a row of any signs at the kinds of the set, and without dual counts below 0."""
     _need(counts, kinds)
     rows = need_rows(counts)
-    if len(rows) == 1:
-        return 1, 1
     # A number of any sign is the difference of two numbers from 0 on.
     bounds = [[-row[kind] for kind in kinds] + [row[kind] for kind in kinds] for row in rows[1:]]
     gains = [rows[0][kind] for kind in kinds]

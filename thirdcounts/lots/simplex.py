@@ -30,8 +30,8 @@ def _leaving(rows, basis, column):
 def greatest(bounds, gains):
     """The variables, at least 0, with the greatest sum of gains for which no bound is above 1, and the weights.
 
-    The bounds, at least one, are rows of integers, a factor for each variable, and so are the gains.
-    The greatest sum is told to exist. The weights, one for each bound, are at least 0, and the bounds,
+    The bounds are rows of integers, a factor for each variable, and so are the gains. There must be a
+    greatest sum. The weights, one for each bound, are at least 0, and the bounds,
     so many times each, add up to no less than the gains.
     """
     many, width = len(bounds), len(gains)

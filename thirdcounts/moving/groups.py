@@ -92,15 +92,11 @@ def _need_few_points(scheme):
 def _narrowed(table, places, point, place):
     """The places to which the points can still be led once a point is led to a place, `None` if a point has none."""
     found = []
-    for other, left in enumerate(places):
-        if other == point:
-            found.append([place])
-        else:
-            kind = table[point][other]
-            fitting = [further for further in left if table[place][further] == kind]
-            if not fitting:
-                return None
-            found.append(fitting)
+    for kind, left in zip(table[point], places):
+        fitting = [further for further in left if table[place][further] == kind]
+        if not fitting:
+            return None
+        found.append(fitting)
     return found
 
 
@@ -125,8 +121,6 @@ def _kept_move(table, one, other):
     points = list(range(len(table)))
     places = [points for _ in points]
     for point, place in zip(one, other):
-        if place not in places[point]:
-            return None
         places = _narrowed(table, places, point, place)
         if places is None:
             return None
@@ -188,7 +182,7 @@ def is_moves_paper(scheme, value):
     """Whether the value is a paper for the scheme, or against it."""
     need_scheme(scheme)
     _need_few_points(scheme)
-    if not isinstance(value, tuple) or len(value) not in (2, 5) or not isinstance(value[0], str):
+    if not isinstance(value, tuple) or len(value) not in (2, 5):
         return False
     table = scheme.table
     if len(value) == 2:
@@ -289,7 +283,7 @@ def lot_sum(moduli, lot, point):
 
 def _need_turning(moduli, value):
     size = _size_of(moduli)
-    if not is_parting_of(value, 1, size - 1) or not 1 <= len(value) <= MAX_KINDS:
+    if not is_parting_of(value, 1, size - 1) or len(value) > MAX_KINDS:
         raise InvalidParting("this is no parting of 1 to 10 lots")
     opposites = _opposites(moduli)
     for lot in value:

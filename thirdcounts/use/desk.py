@@ -20,9 +20,7 @@ def _is_many(value):
 
 def is_pledge(value):
     """Whether the value is a pledge."""
-    if not isinstance(value, tuple) or len(value) not in (3, 4):
-        return False
-    if not isinstance(value[0], str) or not is_name(value[1]):
+    if not isinstance(value, tuple) or len(value) not in (3, 4) or not is_name(value[1]):
         return False
     word, last = value[0], value[-1]
     if len(value) == 3:
@@ -288,7 +286,7 @@ class Desk:
         return f"{page.present.size} points, {len(page.by_name)} lots, {len(page.demands)} pledges"
 
     def __contains__(self, value):
-        return isinstance(value, str) and value in self._page.texts or is_pledge(value) and value in self._page.demands
+        return value in self._page.texts or is_pledge(value) and value in self._page.demands
 
     def __len__(self):
         return len(self._page.demands)
