@@ -79,7 +79,7 @@ def _one_more(told, kind):
     return tuple([many + 1 if index + 1 == kind else many for index, many in enumerate(told)])
 
 
-def _type_of_places(one, other, scheme):
+def _kinds_at_places(one, other, scheme):
     """How often two tuples of points have each kind from 1 on."""
     kinds = [scheme.table[left][right] for left, right in zip(one, other)]
     return tuple([kinds.count(kind) for kind in range(1, scheme.most + 1)])
@@ -95,7 +95,7 @@ def power(scheme, many):
     points = [()]
     for _ in range(many):
         points = [(*begun, point) for begun in points for point in range(scheme.size)]
-    return Scheme(tuple([tuple([names[_type_of_places(one, other, scheme)] for other in points]) for one in points]))
+    return Scheme(tuple([tuple([names[_kinds_at_places(one, other, scheme)] for other in points]) for one in points]))
 
 
 def power_types(most, many):
@@ -141,7 +141,7 @@ def _inside_counts(one, other):
     return _as_tuples(table)
 
 
-def _kinds_of_type(told, many):
+def _all_kinds(told, many):
     """The kinds of all of `many` places, for what tells how many of them have each kind."""
     kinds = [0] * (many - sum(told))
     for index, times in enumerate(told):
@@ -153,7 +153,7 @@ def _pairs_at(counts, told, many):
     """By two of the types the number of the thirds that have them to tuples of points that have `told`."""
     zero = (0,) * (len(counts) - 1)
     found = {(zero, zero): 1}
-    for kind in _kinds_of_type(told, many):
+    for kind in _all_kinds(told, many):
         longer = {}
         for (one, other), times in found.items():
             for first, row in enumerate(counts[kind]):
@@ -225,10 +225,10 @@ def inside_table(one, other):
     return _descending(across + [list(row) + [0] * (len(right) - 1) for row in left[1:]])
 
 
-def _type_values(rows, told, many):
+def _values_by_types(rows, told, many):
     """By types the coefficients of the product of the rows of the eigenspaces that are told."""
     found = {(0,) * (len(rows) - 1): 1}
-    for space in _kinds_of_type(told, many):
+    for space in _all_kinds(told, many):
         longer = {}
         for begun, value in found.items():
             for kind, entry in enumerate(rows[space]):
@@ -245,5 +245,5 @@ def power_table(counts, many):
     _power_counts(counts, many)
     rows = need_rows(counts)
     types = _types_up_to(len(counts) - 1, many)
-    values = [_type_values(rows, told, many) for told in types]
+    values = [_values_by_types(rows, told, many) for told in types]
     return _descending([[value[told] for told in types] for value in values])
